@@ -1,0 +1,1 @@
+"""Agreetwo: tables that overlap, and one condition for all that they promise."""

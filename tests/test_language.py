@@ -1,0 +1,152 @@
+"""Rules of the language that a look at the files can tell, and where the interface's names are defined."""
+
+import ast
+import unittest
+from pathlib import Path
+
+PACKAGE = Path(__file__).resolve().parent.parent / "agreetwo"
+FILES = sorted(PACKAGE.rglob("*.py"))
+
+DEFINED = {
+    "errors": "AgreeError TooMany UnlikeHeadings Empty BadGroup BadDeed NothingDone BadRow BadNumber BadFamily "
+              "BadExchange Unlike BadHeading TooFew BadText BadName Clash Cored Folds Disagree Missing NoRow "
+              "UnknownColumn UnknownName NoMoment",
+    "headings": "is_heading shared together beyond part",
+    "tables": "Table summed support is_within agree meet",
+    "joints": "joint join",
+    "tabletexts": "table_text read_table",
+    "webs": "is_web columns_of cut largest",
+    "ears": "ears folding judge_folding root",
+    "trees": "tree_of judge_tree seam seams parts is_folding_tree",
+    "cores": "core judge_core core_headings",
+    "families": "check_family disagreement sums is_whole",
+}
+METHODS = {"tables": {"Table": "__init__ heading rows counts times total __len__ __contains__ __iter__ __eq__ __add__ "
+                               "__sub__ __mul__ __rmul__"}}
+
+BUILTINS = set("len range enumerate zip min max sum abs sorted reversed int str bool list tuple dict set isinstance ord "
+               "repr any all divmod iter next type ValueError LookupError KeyError NotImplemented".split())
+LIBRARY = {"heapq", "math", "itertools", "collections"}
+BARRED = ["typing", "enum", "Generic", "Protocol", "ABC", "namedtuple", "dataclass", "overload", "contextmanager"]
+
+
+def trees():
+    return [(path, ast.parse(path.read_text())) for path in FILES]
+
+
+def imports(tree):
+    return [node for node in ast.walk(tree) if isinstance(node, (ast.Import, ast.ImportFrom))]
+
+
+class Files(unittest.TestCase):
+    def test_the_folder_holds_only_python(self):
+        for path in PACKAGE.rglob("*"):
+            if "__pycache__" not in path.parts:
+                self.assertTrue(path.is_dir() or path.suffix == ".py", path)
+                self.assertTrue(path.is_dir() or path.name == path.name.lower(), path)
+        self.assertTrue((PACKAGE / "__init__.py").is_file())
+
+    def test_sizes_and_characters(self):
+        for path, tree in trees():
+            text = path.read_text()
+            lines = text.split("\n")
+            self.assertLessEqual(len(lines), 400, path)
+            self.assertLessEqual(max(map(len, lines)), 120, path)
+            self.assertFalse([sign for sign in text if sign != "\n" and not " " <= sign <= "~"], path)
+            for node in ast.walk(tree):
+                if isinstance(node, ast.FunctionDef):
+                    self.assertLessEqual(node.end_lineno - node.lineno + 1, 40, (path, node.name))
+
+    def test_docstrings(self):
+        for path, tree in trees():
+            self.assertTrue(ast.get_docstring(tree), path)
+            for node in tree.body:
+                if isinstance(node, (ast.FunctionDef, ast.ClassDef)):
+                    self.assertTrue(ast.get_docstring(node), (path, node.name))
+
+
+class Imports(unittest.TestCase):
+    def test_forms(self):
+        for path, tree in trees():
+            for node in imports(tree):
+                self.assertIsInstance(node, ast.ImportFrom, path)
+                self.assertEqual(node.level, 0)
+                self.assertIn(node, tree.body, path)
+                for alias in node.names:
+                    self.assertNotEqual(alias.name, "*")
+                    self.assertIsNone(alias.asname, path)
+                if node.module not in LIBRARY:
+                    self.assertEqual(node.module.split(".")[0], "agreetwo")
+                    home = ast.parse((PACKAGE / (node.module.split(".")[1] + ".py")).read_text())
+                    for alias in node.names:
+                        self.assertIn(alias.name, defined_names(home), (path, alias.name))
+
+    def test_no_file_imports_itself_through_others(self):
+        needs = {path.stem: {node.module.split(".")[-1] for node in imports(tree)} - LIBRARY for path, tree in trees()}
+        while needs:
+            free = [name for name in needs if not needs[name] & set(needs)]
+            self.assertTrue(free, needs)
+            for name in free:
+                del needs[name]
+
+
+def defined_names(tree):
+    names = {node.name for node in tree.body if isinstance(node, (ast.FunctionDef, ast.ClassDef))}
+    return names | {target.id for node in tree.body if isinstance(node, ast.Assign) for target in node.targets}
+
+
+class Definitions(unittest.TestCase):
+    def test_each_name_in_its_file(self):
+        for name, told in DEFINED.items():
+            tree = ast.parse((PACKAGE / (name + ".py")).read_text())
+            made = {node.name for node in tree.body if isinstance(node, (ast.FunctionDef, ast.ClassDef))}
+            self.assertLessEqual(set(told.split()), made, name)
+
+    def test_each_method_in_its_class(self):
+        for name, classes in METHODS.items():
+            tree = ast.parse((PACKAGE / (name + ".py")).read_text())
+            for node in tree.body:
+                if isinstance(node, ast.ClassDef) and node.name in classes:
+                    made = {part.name for part in node.body if isinstance(part, ast.FunctionDef)}
+                    self.assertLessEqual(set(classes[node.name].split()), made)
+
+
+class Words(unittest.TestCase):
+    def test_only_told_builtins(self):
+        known = set(dir(__builtins__) if not isinstance(__builtins__, dict) else __builtins__)
+        for path, tree in trees():
+            used = {node.id for node in ast.walk(tree) if isinstance(node, ast.Name)} & known
+            self.assertLessEqual(used, BUILTINS, path)
+            given = {node.arg for node in ast.walk(tree) if isinstance(node, ast.arg)}
+            given |= {node.id for node in ast.walk(tree)
+                      if isinstance(node, ast.Name) and isinstance(node.ctx, ast.Store)}
+            given |= {node.name for node in tree.body if isinstance(node, (ast.FunctionDef, ast.ClassDef))}
+            self.assertFalse(given & known, path)
+
+    def test_no_generator_beside_equality(self):
+        for path, tree in trees():
+            self.assertFalse([node for node in ast.walk(tree) if isinstance(node, ast.GeneratorExp)], path)
+            self.assertFalse([node for node in ast.walk(tree) if isinstance(node, ast.Lambda)
+                              and isinstance(node.body, ast.Compare)], path)
+
+    def test_no_barred_words(self):
+        for path, tree in trees():
+            names = {node.id for node in ast.walk(tree) if isinstance(node, ast.Name)}
+            names |= {node.attr for node in ast.walk(tree) if isinstance(node, ast.Attribute)}
+            names |= {node.value for node in ast.walk(tree)
+                      if isinstance(node, ast.Constant) and isinstance(node.value, str)}
+            self.assertFalse(names & set(BARRED), path)
+            self.assertFalse([node for node in ast.walk(tree) if isinstance(node, (ast.AsyncFunctionDef, ast.Global))])
+
+    def test_parameters_and_variables_hide_no_import(self):
+        for path, tree in trees():
+            told = {alias.name for node in imports(tree) for alias in node.names}
+            told |= {node.name for node in tree.body if isinstance(node, ast.ClassDef)}
+            given = {node.arg for node in ast.walk(tree) if isinstance(node, ast.arg)}
+            given |= {node.id for node in ast.walk(tree)
+                      if isinstance(node, ast.Name) and isinstance(node.ctx, ast.Store)}
+            self.assertFalse(given & told, path)
+
+
+if __name__ == "__main__":
+    unittest.main()
