@@ -17,10 +17,13 @@ def by_part(table, columns):
 
 
 def paired(left, right):
-    """Triples (row, row, n): the first rows of two lists of (row, count), as often as both are left, and so on."""
+    """Triples (row, row, n): the first rows of two lists of (row, count), as often as both are left, and so on.
+
+    The counts of both lists come to the same, so both end at once.
+    """
     triples = []
     j, k, used, taken = 0, 0, 0, 0
-    while j < len(left) and k < len(right):
+    while j < len(left):
         row, count = left[j]
         mate, most = right[k]
         n = min(count - used, most - taken)

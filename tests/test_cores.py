@@ -149,6 +149,7 @@ class JudgeCore(unittest.TestCase):
     def test_wrong_forms(self):
         four = ("a", "b", "c", "d")
         for value in [("ring", ("a", "b", "c")), ("ring", ("b", "c", "d", "a")), ("ring", ("a", "d", "c", "b")),
+                      ("ring", ("b", "a", "d", "c")), ("ring", ("d", "a", "b", "c")), ("ring", ("c", "b", "a", "d")),
                       ("ring", ("a", "b", "c", "c")), ("ring", ("a", "b", "b", "d")), ("ring", ("a", "b", "c", "x")),
                       ("ring", ["a", "b", "c", "d"]), ["ring", four], ("ring",), ("ring", four, four), ("ring",) + four,
                       ("round", four), (None, four), (True, four), (four, "ring"), ("ring", "abcd"), ("ring", None),

@@ -1,6 +1,8 @@
 """The interface's examples, as they stand in the document."""
 
+import doctest
 import unittest
+from pathlib import Path
 
 from agreetwo.cores import core, core_headings, judge_core
 from agreetwo.ears import ears, folding, judge_folding, root
@@ -99,6 +101,14 @@ class StageTwo(unittest.TestCase):
             [is_whole(PAIR, [LEFT, RIGHT], joint(LEFT, RIGHT)), sums(PAIR, joint(LEFT, RIGHT)) == [LEFT, RIGHT]],
             [True, True])
         self.assertEqual(raised(BadFamily, check_family, PAIR, [LEFT, LEFT]).number, 1)
+
+
+class Readme(unittest.TestCase):
+    def test_its_examples(self):
+        readme = Path(__file__).resolve().parent.parent / "README.md"
+        told = doctest.testfile(str(readme), module_relative=False)
+        self.assertEqual(told.failed, 0)
+        self.assertGreater(told.attempted, 0)
 
 
 if __name__ == "__main__":

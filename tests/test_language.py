@@ -1,6 +1,7 @@
 """Rules of the language that a look at the files can tell, and where the interface's names are defined."""
 
 import ast
+import builtins
 import unittest
 from pathlib import Path
 
@@ -113,7 +114,7 @@ class Definitions(unittest.TestCase):
 
 class Words(unittest.TestCase):
     def test_only_told_builtins(self):
-        known = set(dir(__builtins__) if not isinstance(__builtins__, dict) else __builtins__)
+        known = {name for name in dir(builtins) if not name.startswith("_")}
         for path, tree in trees():
             used = {node.id for node in ast.walk(tree) if isinstance(node, ast.Name)} & known
             self.assertLessEqual(used, BUILTINS, path)
