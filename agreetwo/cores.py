@@ -1,5 +1,7 @@
 """Cores: why a web does not fold."""
 
+from agreetwo.ears import folding
+from agreetwo.errors import Cored, Folds
 from agreetwo.headings import lies_within
 from agreetwo.webs import columns_of, cut, largest
 
@@ -66,6 +68,22 @@ def core(web):
             if found is not None:
                 return found
     return None
+
+
+def folded(web):
+    """The folding of the web; Cored(core) if it has none."""
+    pairs = folding(web)
+    if pairs is None:
+        raise Cored(core(web))
+    return pairs
+
+
+def cored(web):
+    """The core of the web; Folds(pairs) if it folds."""
+    pairs = folding(web)
+    if pairs is not None:
+        raise Folds(pairs)
+    return core(web)
 
 
 def is_circle(columns):

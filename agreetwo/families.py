@@ -19,6 +19,15 @@ def check_family(web, value):
             raise BadFamily(x)
 
 
+def is_family(web, value):
+    """Whether any value is a family of the web."""
+    try:
+        check_family(web, value)
+    except BadFamily:
+        return False
+    return True
+
+
 def disagreement(web, family):
     """None if each two tables agree, else (x, y, row) of the first two that do not."""
     for x in range(len(web)):

@@ -2,7 +2,10 @@
 
 import random
 
+from agreetwo.ears import folding
+from agreetwo.families import sums
 from agreetwo.tables import Table
+from agreetwo.webs import columns_of
 
 LETTERS = "abcdefgh"
 AB, BC = ("a", "b"), ("b", "c")
@@ -89,3 +92,42 @@ def raised(kind, call, *args):
         assert error.called == kind.__name__, error
         return error
     raise AssertionError(f"{kind.__name__} was asked for, {told!r} came")
+
+
+def folding_web(rng, most_headings=5, most_columns=6, widest=3, least=1):
+    """A drawn web of at least so many headings that folds."""
+    while True:
+        web = drawn_web(rng, most_headings, most_columns, widest)
+        if len(web) >= least and folding(web) is not None:
+            return web
+
+
+def cored_web(rng, letters=LETTERS):
+    """A drawn web that does not fold."""
+    while True:
+        web = drawn_tangle(rng, letters)
+        if folding(web) is None:
+            return web
+
+
+def drawn_family(rng, web, rows=4, values=1, most=3):
+    """A table over each heading; as a rule no two of them agree."""
+    return [drawn_table(rng, heading, rows, values, most) for heading in web]
+
+
+def agreeing_family(rng, web, rows=6, values=1, most=3):
+    """The sums of a drawn table over all columns; its total may be 0."""
+    return sums(web, drawn_table(rng, columns_of(web), rows, values, most))
+
+
+def filled_family(rng, web, rows=6, values=1, most=3):
+    """The sums of a drawn table over all columns, with a total above 0."""
+    while True:
+        family = agreeing_family(rng, web, rows, values, most)
+        if family[0].total() > 0:
+            return family
+
+
+def ones(heading, *rows):
+    """The table over the heading that has these rows once each."""
+    return Table(heading, [(row, 1) for row in rows])

@@ -4,16 +4,27 @@ import doctest
 import unittest
 from pathlib import Path
 
+from agreetwo.broken import broken, core_rows, lots_of
 from agreetwo.cores import core, core_headings, judge_core
 from agreetwo.ears import ears, folding, judge_folding, root
-from agreetwo.errors import BadFamily, BadRow, BadText, Disagree, NoRow, TooFew, TooMany
+from agreetwo.errors import (BadFamily, BadNumber, BadRow, BadText, Cored, Disagree, Empty, Folds, NoRow, TooFew,
+                             TooMany)
 from agreetwo.families import check_family, disagreement, is_whole, sums
+from agreetwo.follows import blocks, follows
+from agreetwo.fractions import fraction, is_less, minus, multiplied, over, plus, share, shares
 from agreetwo.headings import beyond, is_heading, part, shared, together
 from agreetwo.joints import join, joint
+from agreetwo.plans import data_of, judge_paper, judge_plan, unrolled
+from agreetwo.products import even_whole, free, product, product_rows, product_total
+from agreetwo.questions import count_join, gathered, nth, place_of, scale_led
+from agreetwo.seeing import apart, chance, kept_apart, likeliest, row_at, seen
+from agreetwo.splits import has_split, is_split, lacking, must_split, other_side, splits_of
+from agreetwo.steps import done, full_plan, is_clean, leaving
 from agreetwo.tables import Table, agree, meet, summed, support
 from agreetwo.tabletexts import read_table, table_text
 from agreetwo.trees import is_folding_tree, judge_tree, parts, seam, seams, tree_of
 from agreetwo.webs import columns_of, cut, is_web, largest
+from agreetwo.wholes import bound, lost, whole, whole_by, whole_set
 from tests.support import raised
 
 AB, BC = ("a", "b"), ("b", "c")
@@ -21,7 +32,10 @@ LEFT = Table(AB, [((0, 1), 3), ((2, 2), 1), ((0, 1), 2)])
 RIGHT = Table(BC, [((1, 0), 4), ((1, 5), 1), ((2, 0), 1)])
 CHAIN, RING = (("a", "b"), ("b", "c"), ("c", "d")), (("a", "b"), ("b", "c"), ("c", "d"), ("a", "d"))
 SHELL = (("a", "b"), ("a", "c"), ("b", "c"))
-PAIR = (("a", "b"), ("b", "c"))
+PAIR = PATH = (("a", "b"), ("b", "c"))
+ABC = ("a", "b", "c")
+TWO = (Table(("a", "b"), [((0, 0), 2), ((1, 0), 1), ((1, 1), 1)]),
+       Table(("b", "c"), [((0, 0), 1), ((0, 1), 2), ((1, 1), 1)]))
 
 
 class StageOne(unittest.TestCase):
@@ -101,6 +115,132 @@ class StageTwo(unittest.TestCase):
             [is_whole(PAIR, [LEFT, RIGHT], joint(LEFT, RIGHT)), sums(PAIR, joint(LEFT, RIGHT)) == [LEFT, RIGHT]],
             [True, True])
         self.assertEqual(raised(BadFamily, check_family, PAIR, [LEFT, LEFT]).number, 1)
+
+
+class StageThree(unittest.TestCase):
+    def test_wholes(self):
+        self.assertEqual(
+            [whole(PAIR, [LEFT, RIGHT]).counts(), bound(PAIR, [LEFT, RIGHT]), lost(PAIR, [LEFT, RIGHT])],
+            [[((0, 1, 0), 4), ((0, 1, 5), 1), ((2, 2, 0), 1)], 3, None])
+        self.assertEqual(
+            [whole_by(PAIR, [LEFT, RIGHT], ((1, 0),)) == joint(LEFT, RIGHT),
+             whole_set(PAIR, [LEFT, RIGHT * 2]).rows()],
+            [True, [(0, 1, 0), (0, 1, 5), (2, 2, 0)]])
+        error = raised(Disagree, whole, PAIR, [LEFT, RIGHT * 2])
+        self.assertEqual((error.one, error.other, error.row), (0, 1, (1,)))
+
+    def test_broken(self):
+        self.assertEqual(
+            [lots_of(RING), core_rows(RING, "unit"), core_rows(RING, "even")],
+            [[("a",), ("b",), ("c", "d")], [(0, 0, 1, 1), (0, 1, 0, 0), (1, 0, 0, 0)],
+             [(0, 0, 0, 0), (0, 1, 1, 1), (1, 0, 1, 1), (1, 1, 0, 0)]])
+        self.assertEqual([table.rows() for table in broken(RING)],
+                         [[(0, 1), (1, 0)], [(0, 1), (1, 0)], [(0, 0), (1, 1)], [(0, 1), (1, 0)]])
+        self.assertEqual(
+            [disagreement(RING, broken(RING)), lost(RING, broken(RING)), [table.rows() for table in broken(SHELL)]],
+            [None, (0, (0, 1)), [[(0, 1), (1, 0)], [(0, 1), (1, 0)], [(0, 1), (1, 0)]]])
+        self.assertEqual(raised(Cored, whole, RING, broken(RING)).core, ("ring", ("a", "b", "c", "d")))
+        self.assertEqual(raised(Folds, broken, PAIR).pairs, ((0, 1),))
+
+
+class StageFour(unittest.TestCase):
+    def test_steps(self):
+        pair = (Table(("a", "b"), [((0, 0), 2), ((1, 5), 1)]), Table(("b", "c"), [((0, 7), 1)]))
+        self.assertEqual(
+            [full_plan(PATH), is_clean(PATH, pair, 0), is_clean(PATH, pair, 1), leaving(PATH, pair, ((1, 0), (0, 1)))],
+            [((1, 0), (0, 1)), False, True, [0, 1]])
+        self.assertEqual(done(PATH, pair, ((0, 1),))[0].counts(), [((0, 0), 2)])
+
+    def test_plans(self):
+        web, plan = (("a",), ("a", "w"), ("a", "e"), ("a", "e", "g")), ((3, 2), (0, 3), (2, 1), (0, 2))
+        self.assertEqual(unrolled(web, plan, 0), [(0, None), (3, 0), (2, 1), (2, 0), (1, 3)])
+        self.assertEqual([table.rows() for table in data_of(web, unrolled(web, plan, 0))],
+                         [[(0,)], [(0, 0)], [(0, 0), (0, 1)], [(0, 0, 0)]])
+        self.assertEqual([judge_plan(web, plan, 0), judge_paper(web, plan, 0, ("clean", (0, 4, 3, 1)))],
+                         [("clean", (0, 4, 2, 1)), ("apart", 2, 3)])
+        self.assertEqual([judge_plan(web, plan[:2], 0)[0], judge_paper(web, plan, 0, ("clean", (0, 3, 2, 1)))],
+                         ["data", ("node", 1)])
+
+    def test_questions(self):
+        two = (Table(("a", "b"), [((0, 0), 2), ((1, 0), 3)]),
+               Table(("b", "c"), [((0, 7), 4), ((0, 8), 1), ((9, 9), 1)]))
+        self.assertEqual(
+            [count_join(PATH, two), scale_led(PATH, two, "sum"), scale_led(PATH, two, "least"),
+             scale_led(PATH, two, "greatest")],
+            [4, 25, 3, 7])
+        self.assertEqual([nth(PATH, two, 1), place_of(PATH, two, (1, 0, 7)), gathered(PATH, two)],
+                         [(0, 0, 8), 2, [2, 4]])
+        self.assertEqual(raised(NoRow, nth, PATH, two, -1).row, -1)
+
+
+class StageFive(unittest.TestCase):
+    def test_fractions(self):
+        self.assertEqual(
+            [fraction(4, -6), plus((1, 2), (1, 3)), minus((1, 3), (1, 2)), multiplied((2, 3), (3, 4)),
+             over((1, 2), (1, 4)), is_less((1, 3), (1, 2))],
+            [(-2, 3), (5, 6), (-1, 6), (1, 2), (2, 1), True])
+        coin = Table(("a",), [((0,), 3), ((1,), 1)])
+        self.assertEqual([share(coin, (0,)), share(coin, (7,)), shares(coin)],
+                         [(3, 4), (0, 1), [((0,), (3, 4)), ((1,), (1, 4))]])
+        self.assertEqual(raised(BadNumber, over, (1, 2), (0, 1)).number, (0, 1))
+
+    def test_products(self):
+        self.assertEqual(
+            [product(PATH, ((0, 1),), TWO, (0, 0, 1)), product(PATH, ((0, 1),), TWO, (0, 1, 1)),
+             product_total(PATH, ((0, 1),), TWO)],
+            [(1, 3), (0, 1), (1, 1)])
+        n, table = even_whole(PATH, TWO)
+        self.assertEqual(
+            [n, table.counts()],
+            [3, [((0, 0, 0), 2), ((0, 0, 1), 4), ((1, 0, 0), 1), ((1, 0, 1), 2), ((1, 1, 1), 3)]])
+        columns = ("a", "b", "c")
+        self.assertEqual(
+            [free(SHELL, columns)[0].counts()[0], product_total(SHELL, ((0, 1), (1, 2)), free(SHELL, columns))],
+            [((0, 0), 2), (1, 2)])
+        self.assertEqual(product_rows(PATH, ((0, 1),), TWO)[:2], [((0, 0, 0), (1, 6)), ((0, 0, 1), (1, 3))])
+
+    def test_seeing(self):
+        self.assertEqual(
+            [chance(PATH, TWO, {}), chance(PATH, TWO, {"c": 1}), seen(PATH, TWO, {"c": 1}, "a"),
+             likeliest(PATH, TWO, {"a": 1})],
+            [(1, 1), (3, 4), {0: (4, 9), 1: (5, 9)}, ((1, 1, 1), (1, 4))])
+        self.assertEqual([row_at(PATH, TWO, (0, 1)), row_at(PATH, TWO, (1, 6)), row_at(PATH, TWO, (99, 100))],
+                         [(0, 0, 0), (0, 0, 1), (1, 1, 1)])
+        same = Table(("a", "b"), [((0, 0), 1), ((1, 1), 1)])
+        self.assertEqual(
+            [apart(same, ("a",), ("b",), ()), apart(Table(("a", "b"), [((0, 0), 1), ((0, 1), 2)]), ("a",), ("b",), ())],
+            [(0, 0), None])
+        self.assertEqual(
+            [kept_apart(PATH, ("a",), ("c",), ("b",)),
+             [one.counts() for one in kept_apart(PATH, ("a",), ("c",), ())]],
+            [None, [[((0, 0), 1), ((1, 1), 1)], [((0, 0), 1), ((1, 1), 1)]]])
+        raised(Empty, seen, PATH, TWO, {"c": 9}, "a")
+        self.assertEqual(raised(BadNumber, row_at, PATH, TWO, (1, 1)).number, (1, 1))
+
+
+class StageSix(unittest.TestCase):
+    def test_splits(self):
+        three = Table(ABC, [((0, 0, 0), 1), ((0, 1, 1), 2), ((1, 5, 7), 1)])
+        self.assertEqual(
+            [is_split(ABC, (("a",), ("b",))), is_split(ABC, (("a",), ("b", "c"))), other_side(ABC, (("a",), ("b",)))],
+            [True, False, (("a",), ("c",))])
+        self.assertEqual(
+            [lacking(three, (("a",), ("b",))), has_split(three, (("b",), ("a",))), has_split(three, (("c",), ("b",)))],
+            [(0, 0, 1), True, True])
+        self.assertEqual(
+            [must_split(CHAIN, (("b",), ("a",))), must_split(CHAIN, (("b",), ("c",))), splits_of(CHAIN)],
+            [True, False, [(("b",), ("a",)), (("c",), ("a", "b"))]])
+
+    def test_follows(self):
+        heading, told = ("a", "b", "c", "d"), [(("a",), ("b",)), (("c",), ("d",))]
+        self.assertEqual(
+            [blocks(heading, told, ("a",)), blocks(heading, told, ("c",)), blocks(heading, told, ("a", "c")),
+             blocks(ABC, [], ABC)],
+            [[("b",), ("c", "d")], [("a", "b"), ("d",)], [("b",), ("d",)], []])
+        self.assertEqual(blocks(heading, [(("a",), ("b",)), (("b",), ("c",))], ("a",)), [("b",), ("c",), ("d",)])
+        self.assertEqual(
+            [follows(heading, told, (("a", "c"), ("b",))), follows(heading, told, (("a",), ("c",))).rows()],
+            [None, [(0, 0, 0, 0), (0, 0, 1, 1), (0, 1, 0, 0), (0, 1, 1, 1)]])
 
 
 class Readme(unittest.TestCase):

@@ -21,6 +21,16 @@ DEFINED = {
     "trees": "tree_of judge_tree seam seams parts is_folding_tree",
     "cores": "core judge_core core_headings",
     "families": "check_family disagreement sums is_whole",
+    "wholes": "whole whole_by bound lost whole_set",
+    "broken": "lots_of core_rows broken",
+    "steps": "done leaving is_clean full_plan",
+    "plans": "unrolled data_of judge_plan judge_paper",
+    "questions": "count_join scale_led nth place_of gathered",
+    "fractions": "fraction plus minus multiplied over is_less share shares",
+    "products": "product product_rows product_total free even_whole",
+    "seeing": "apart kept_apart chance seen likeliest row_at",
+    "splits": "is_split other_side lacking has_split must_split splits_of",
+    "follows": "blocks follows",
 }
 METHODS = {"tables": {"Table": "__init__ heading rows counts times total __len__ __contains__ __iter__ __eq__ __add__ "
                                "__sub__ __mul__ __rmul__"}}
