@@ -81,7 +81,7 @@ def broken(web):
     lots, headings = lots_of_core(core), core_headings(core)
     family = []
     for heading in web:
-        inside = shared(heading, tuple(sorted(core[1])))
+        inside = shared(heading, core[1])
         holder = [other for other in headings if lies_within(inside, other)][0]
         family.append(widened(summed(table_over_core(holder, lots), heading), heading))
     return family

@@ -80,6 +80,6 @@ def even_whole(web, family):
     rows = product_rows(web, tree_of(folded(web)), family)
     scaled = [(row, multiplied(made, (total, 1))) for row, made in rows]
     n = 1
-    for _, (_, q) in scaled:
-        n = lcm(n, q)
+    for _, made in scaled:
+        n = lcm(n, made[1])
     return n, Table(columns_of(web), [(row, p * (n // q)) for row, (p, q) in scaled])

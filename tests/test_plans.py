@@ -219,7 +219,7 @@ class JudgePaper(unittest.TestCase):
         self.assertEqual(judge_paper(WEB, PLAN, 0, ("clean", (0, 3, 2, 1))), ("node", 1))
 
     def test_nodes(self):
-        for nodes, k in [((0, 4, 2, -4), 3), ((0, 4, 2, 5), 3), ((-5, 4, 2, 1), 0), ((1, 4, 2, 1), 0),
+        for nodes, k in [((0, 4, 2, -4), 3), ((0, -1, 2, 1), 1), ((0, 4, 2, 5), 3), ((-5, 4, 2, 1), 0), ((1, 4, 2, 1), 0),
                          ((0, 10 ** 40 - 1, 2, 1), 1), ((0, 4, 1, 2), 2), ((5, 5, 5, 5), 0), ((0, 2, 2, 9), 1)]:
             self.assertEqual(judge_paper(WEB, PLAN, 0, ("clean", nodes)), ("node", k), nodes)
 
