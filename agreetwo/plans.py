@@ -20,7 +20,7 @@ def many_nodes(web, plan, x):
     """How many nodes the tree of x has behind the last step."""
     many = [1 for _ in web]
     for a, b in plan:
-        many[a] += many[b]
+        many[a] = many[a] + many[b]
     return many[x]
 
 

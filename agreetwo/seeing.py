@@ -53,7 +53,7 @@ def first_chain(web, one, other, given):
             return ends[0]
         longer = []
         # All chains here are of one length and ascend: so the first one that comes to a column is the first of all.
-        for chain in chains:
+        for chain in list(chains):
             for column in neighbours(web, chain[-1]):
                 if column not in reached:
                     reached.append(column)

@@ -4,6 +4,9 @@ import ast
 import builtins
 import unittest
 from pathlib import Path
+from textwrap import dedent
+
+from tests.walks import faults
 
 PACKAGE = Path(__file__).resolve().parent.parent / "agreetwo"
 FILES = sorted(PACKAGE.rglob("*.py"))
@@ -157,6 +160,86 @@ class Words(unittest.TestCase):
             given |= {node.id for node in ast.walk(tree)
                       if isinstance(node, ast.Name) and isinstance(node.ctx, ast.Store)}
             self.assertFalse(given & told, path)
+
+
+WRONG_WALKS = ["""
+    def many_nodes(plan, many):
+        for a, b in plan:
+            many[a] += many[b]
+    """, """
+    def first_chain(chains):
+        while chains:
+            longer = []
+            for chain in chains:
+                longer.append(chain + (1,))
+            chains = longer
+    """, """
+    def one(xs):
+        for x in xs:
+            xs.append(x)
+    """, """
+    def one(xs):
+        for k, x in enumerate(xs):
+            xs[k] = x + 1
+    """, """
+    def one(self, more):
+        for x in self.rows if more else self.less:
+            self.less.pop()
+    """, """
+    def one(d):
+        for k, x in d.items():
+            del d[k]
+    """, """
+    def one(xs):
+        ys = xs
+        return [ys.pop() for x in xs]
+    """, """
+    def one(xs):
+        xs.extend(xs)
+    """, """
+    def one(xs):
+        xs.extend([x for x in xs])
+    """, """
+    def one(d):
+        d[0] |= d
+    """]
+RIGHT_WALKS = ["""
+    def many_nodes(plan, many):
+        for a, b in plan:
+            many[a] = many[a] + many[b]
+    """, """
+    def first_chain(chains):
+        while chains:
+            longer = []
+            for chain in list(chains):
+                longer.append(chain + (1,))
+            chains = longer
+    """, """
+    def one(xs, ys):
+        for x in xs:
+            ys.append(x)
+            ys += [x]
+        ys.extend(list(ys))
+        ys = ys + [len(ys)]
+    """, """
+    def one(xs):
+        n = 0
+        for k in range(len(xs)):
+            xs[k] = n
+            n += xs[k]
+    """]
+
+
+class Walks(unittest.TestCase):
+    def test_nothing_is_changed_while_it_is_walked(self):
+        for path, tree in trees():
+            self.assertEqual(faults(tree), [], path)
+
+    def test_such_rows_are_told(self):
+        for text in WRONG_WALKS:
+            self.assertEqual(len(faults(ast.parse(dedent(text)))), 1, text)
+        for text in RIGHT_WALKS:
+            self.assertEqual(faults(ast.parse(dedent(text))), [], text)
 
 
 if __name__ == "__main__":
