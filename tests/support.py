@@ -102,6 +102,18 @@ def folding_web(rng, most_headings=5, most_columns=6, widest=3, least=1):
             return web
 
 
+def grown_web(rng, most_headings=4, most_columns=4, most_shared=1):
+    """A web of two or more headings that folds: each new one shares few columns with one ahead, and has one more."""
+    letters = rng.sample(LETTERS[:most_columns], most_columns)
+    web = [set(letters[:rng.randint(1, 2)])]
+    left = letters[len(web[0]):]
+    while left and len(web) < most_headings and (len(web) < 2 or rng.random() < 0.8):
+        near = sorted(rng.choice(web))
+        web.append(set(rng.sample(near, rng.randint(0, min(most_shared, len(near))))) | {left.pop()})
+    rng.shuffle(web)
+    return tuple([tuple(sorted(heading)) for heading in web])
+
+
 def cored_web(rng, letters=LETTERS):
     """A drawn web that does not fold."""
     while True:

@@ -161,3 +161,40 @@ def split_holes(table, split):
                 if row not in table:
                     found.append(row)
     return sorted(set(found))
+
+
+def all_tables_of(web, family):
+    """All wholes of a family of a small total, as lists of pairs (row, count), ascending; row by row of the join."""
+    columns = all_columns(web)
+    rows = join_rows(web, family)
+    parts = [[part_of(columns, row, heading) for heading in web] for row in rows]
+    # Where no row is to come that has a part, nothing may be left of this part: this leaves out what leads nowhere.
+    last = [{told[x]: k for k, told in enumerate(parts)} for x in range(len(web))]
+    found = []
+
+    def go_on(k, left, counts):
+        if k == len(rows):
+            found.append(counts)
+            return
+        ends = [x for x in range(len(web)) if last[x][parts[k][x]] == k]
+        for n in range(min(left[x][parts[k][x]] for x in range(len(web))) + 1):
+            if all(left[x][parts[k][x]] == n for x in ends):
+                rest = [{**told, small: told[small] - n} for told, small in zip(left, parts[k])]
+                go_on(k + 1, rest, counts + [(rows[k], n)] if n else counts)
+    if all(row in last[x] for x, table in enumerate(family) for row in table):
+        go_on(0, [dict(table.counts()) for table in family], [])
+    return sorted(found)
+
+
+def count_in(counts, row):
+    """How often a list of pairs (row, count) has the row."""
+    return dict(counts).get(row, 0)
+
+
+def sum_of(columns, counts, heading):
+    """The dict from rows over the heading to their counts in the sum of a list of pairs (row, count)."""
+    found = {}
+    for row, count in counts:
+        small = part_of(columns, row, heading)
+        found[small] = found.get(small, 0) + count
+    return found

@@ -4,22 +4,27 @@ import doctest
 import unittest
 from pathlib import Path
 
+from agreetwo.bounds import bounds_over, greatest, least, whole_with
 from agreetwo.broken import broken, core_rows, lots_of
 from agreetwo.cores import core, core_headings, judge_core
 from agreetwo.ears import ears, folding, judge_folding, root
-from agreetwo.errors import (BadFamily, BadNumber, BadRow, BadText, Cored, Disagree, Empty, Folds, NoRow, TooFew,
-                             TooMany)
+from agreetwo.errors import (BadExchange, BadFamily, BadNumber, BadRow, BadText, Cored, Disagree, Empty, Folds, NoRow,
+                             TooFew, TooMany, Unlike)
+from agreetwo.exchanges import exchanged, judge_exchanges
 from agreetwo.families import check_family, disagreement, is_whole, sums
 from agreetwo.follows import blocks, follows
 from agreetwo.fractions import fraction, is_less, minus, multiplied, over, plus, share, shares
 from agreetwo.headings import beyond, is_heading, part, shared, together
 from agreetwo.joints import join, joint
+from agreetwo.leading import all_wholes, leading, two_wholes
+from agreetwo.parted import added, joins_back, parted_web, unsplit
 from agreetwo.plans import data_of, judge_paper, judge_plan, unrolled
 from agreetwo.products import even_whole, free, product, product_rows, product_total
 from agreetwo.questions import count_join, gathered, nth, place_of, scale_led
 from agreetwo.seeing import apart, chance, kept_apart, likeliest, row_at, seen
 from agreetwo.splits import has_split, is_split, lacking, must_split, other_side, splits_of
 from agreetwo.steps import done, full_plan, is_clean, leaving
+from agreetwo.sure import is_settled, judge_unlike, open_rows, spoiled, surely, two_unlike
 from agreetwo.tables import Table, agree, meet, summed, support
 from agreetwo.tabletexts import read_table, table_text
 from agreetwo.trees import is_folding_tree, judge_tree, parts, seam, seams, tree_of
@@ -241,6 +246,70 @@ class StageSix(unittest.TestCase):
         self.assertEqual(
             [follows(heading, told, (("a", "c"), ("b",))), follows(heading, told, (("a",), ("c",))).rows()],
             [None, [(0, 0, 0, 0), (0, 0, 1, 1), (0, 1, 0, 0), (0, 1, 1, 1)]])
+
+
+    def test_parted(self):
+        abcd, told = ("a", "b", "c", "d"), [(("a",), ("b",)), (("c",), ("d",))]
+        three = Table(ABC, [((0, 0, 0), 1), ((0, 1, 1), 2), ((1, 5, 7), 1)])
+        self.assertEqual([parted_web(abcd, told), parted_web(ABC, [])],
+                         [(("a", "b"), ("c", "d"), ("a", "c")), (("a", "b", "c"),)])
+        self.assertEqual([joins_back((("a", "b"), ("b", "c")), three), added((("a", "b"), ("a", "c")), three)],
+                         [True, (0, 0, 1)])
+        self.assertEqual(
+            [unsplit(SHELL).rows(), joins_back(SHELL, unsplit(SHELL)), added(SHELL, unsplit(SHELL))],
+            [[(0, 0, 0), (0, 1, 1), (1, 0, 1), (1, 1, 0)], False, (0, 0, 1)])
+        self.assertEqual(raised(Folds, unsplit, CHAIN).pairs, ((0, 1), (1, 2)))
+
+
+class StageSeven(unittest.TestCase):
+    def test_bounds(self):
+        self.assertEqual([least(PATH, TWO, (0, 0, 1)), greatest(PATH, TWO, (0, 0, 1)), least(PATH, TWO, (0, 0, 0))],
+                         [1, 2, 0])
+        self.assertEqual(whole_with(PATH, TWO, (0, 0, 1), 1).counts(),
+                         [((0, 0, 0), 1), ((0, 0, 1), 1), ((1, 0, 1), 1), ((1, 1, 1), 1)])
+        self.assertEqual([bounds_over(PATH, TWO, (0,), (0, 0)), bounds_over(PATH, TWO, (0, 1), (0, 0, 1))],
+                         [(2, 2), (1, 2)])
+
+    def test_sure(self):
+        self.assertEqual(surely(PATH, TWO), [((0, 0, 1), 1), ((1, 1, 1), 1)])
+        self.assertEqual(open_rows(PATH, TWO),
+                         [((0, 0, 0), 0, 1), ((0, 0, 1), 1, 2), ((1, 0, 0), 0, 1), ((1, 0, 1), 0, 1)])
+        paper = two_unlike(PATH, TWO)
+        self.assertEqual(
+            [is_settled(PATH, TWO), judge_unlike(PATH, TWO, paper), judge_unlike(PATH, TWO, paper[:1] * 2)],
+            [False, None, ("same",)])
+        self.assertEqual(judge_unlike(PATH, TWO, (paper[0], paper[1] * 2)), ("sum", 1, 0, (0, 0)))
+        family, row = spoiled((("a", "b"), ("a", "c"), ("b", "c")))
+        self.assertEqual([family[0].counts(), row], [[((0, 0), 1), ((0, 1), 1), ((1, 0), 1)], (0, 0, 0)])
+
+
+class StageEight(unittest.TestCase):
+    def test_exchanges(self):
+        two = Table(ABC, [((0, 5, 0), 3), ((1, 5, 1), 2)])
+        self.assertEqual(exchanged(PATH, two, ((0, 5, 0), (1, 5, 1), ("a",), 2)).counts(),
+                         [((0, 5, 0), 1), ((0, 5, 1), 2), ((1, 5, 0), 2)])
+        error = raised(BadExchange, exchanged, PATH, two, ((0, 5, 0), (1, 5, 1), ("a", "c"), 1))
+        self.assertIsNone(error.number)
+        error = raised(TooFew, exchanged, PATH, two, ((0, 5, 0), (1, 5, 1), ("a",), 3))
+        self.assertEqual(error.row, (1, 5, 1))
+        table = Table(ABC, [((0, 5, 0), 1), ((1, 6, 1), 1)])
+        error = raised(BadExchange, exchanged, PATH, table, ((0, 5, 0), (1, 6, 1), ("a",), 1))
+        self.assertEqual(error.number, 0)
+        self.assertEqual(
+            [judge_exchanges(PATH, two, (), two), judge_exchanges(PATH, two, (("a",),), two),
+             judge_exchanges(PATH, two, (), Table(ABC, []))],
+            [None, ("form", 0), ("end",)])
+
+    def test_leading(self):
+        one = Table(ABC, [((0, 5, 0), 1), ((1, 5, 1), 1)])
+        other = Table(ABC, [((0, 5, 1), 1), ((1, 5, 0), 1)])
+        self.assertIsNone(judge_exchanges(PATH, one, leading(PATH, one, other), other))
+        pair = (Table(("a", "b"), [((0, 5), 1), ((1, 5), 1)]), Table(("b", "c"), [((5, 0), 1), ((5, 1), 1)]))
+        self.assertEqual(all_wholes(PATH, pair), [one, other])
+        self.assertEqual(
+            [table.rows() for table in two_wholes((("a", "b"), ("b", "c"), ("a", "c")))],
+            [[(0, 0, 0), (0, 1, 1), (1, 0, 1), (1, 1, 0)], [(0, 0, 1), (0, 1, 0), (1, 0, 0), (1, 1, 1)]])
+        self.assertEqual(raised(Unlike, leading, PATH, one, Table(ABC, [((0, 5, 1), 2)])).number, 0)
 
 
 class Readme(unittest.TestCase):

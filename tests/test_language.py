@@ -34,6 +34,11 @@ DEFINED = {
     "seeing": "apart kept_apart chance seen likeliest row_at",
     "splits": "is_split other_side lacking has_split must_split splits_of",
     "follows": "blocks follows",
+    "parted": "parted_web added joins_back unsplit",
+    "bounds": "least greatest whole_with bounds_over groups_over",
+    "sure": "surely open_rows two_unlike judge_unlike is_settled spoiled",
+    "exchanges": "exchanged judge_exchanges",
+    "leading": "leading all_wholes two_wholes",
 }
 METHODS = {"tables": {"Table": "__init__ heading rows counts times total __len__ __contains__ __iter__ __eq__ __add__ "
                                "__sub__ __mul__ __rmul__"}}
