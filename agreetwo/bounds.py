@@ -10,14 +10,7 @@ from agreetwo.tables import Table, summed
 from agreetwo.trees import tree_of
 from agreetwo.values import is_number
 from agreetwo.webs import columns_of, is_number_in
-from agreetwo.wholes import must_agree
-
-
-def agreed_tree(web, family):
-    """The tree of the web's folding; what whole raises if the web does not fold or the family does not agree."""
-    pairs = folded(web)
-    must_agree(web, family)
-    return tree_of(pairs)
+from agreetwo.wholes import agreed_folding
 
 
 def counts_of_parts(columns, row, tables):
@@ -33,7 +26,7 @@ def limits(columns, tables, seamed, row):
 
 def limits_in(web, family, row):
     """The least and the greatest count of a row, any value, in the wholes of the family, with all errors."""
-    tree, columns = agreed_tree(web, family), columns_of(web)
+    tree, columns = tree_of(agreed_folding(web, family)), columns_of(web)
     if not is_row(columns, row):
         raise BadRow(0)
     return limits(columns, family, seam_sums(web, tree, family), row)
@@ -104,7 +97,7 @@ def is_group(web, tree, value):
 
 def bounds_over(web, family, group, row):
     """The least and the greatest count of a row over the columns of a group's headings, both any values."""
-    tree = agreed_tree(web, family)
+    tree = tree_of(agreed_folding(web, family))
     if not is_group(web, tree, group):
         raise BadGroup()
     columns = columns_of(tuple([web[x] for x in group]))

@@ -5,21 +5,12 @@ from agreetwo.cores import folded
 from agreetwo.ears import root
 from agreetwo.errors import TooMany, Unlike
 from agreetwo.exchanges import turned
-from agreetwo.headings import beyond, part, put_together, together
+from agreetwo.headings import part, put_together, together
 from agreetwo.joints import by_part
+from agreetwo.splits import seams_and_sides
 from agreetwo.tables import Table, summed
-from agreetwo.trees import seam
 from agreetwo.webs import columns_of
-from agreetwo.wholes import must_agree
-
-
-def sides_of(web, pairs):
-    """For each pair (x, y), in order, the columns that x has gathered beyond the seam."""
-    gathering, sides = list(web), []
-    for x, y in pairs:
-        sides.append(beyond(gathering[x], seam(web, x, y)))
-        gathering[y] = together(gathering[y], gathering[x])
-    return sides
+from agreetwo.wholes import agreed_folding
 
 
 def changed(numbers, steps):
@@ -80,8 +71,9 @@ def leading(web, one, other):
     for x, heading in enumerate(web):
         if summed(one, heading) != summed(other, heading):
             raise Unlike(x)
-    columns, sides, exchanges = columns_of(web), sides_of(web, pairs), []
+    columns, sides, exchanges = columns_of(web), [side for _, side in seams_and_sides(web, pairs)], []
     held, near = {row: count for row, count in one.counts()}, web[root(web, pairs)]
+    # Each heading with all that it has gathered sees both rows turned, and each other one sees none.
     for (x, _), side in zip(pairs[::-1], sides[::-1]):
         new, held = put_right(columns, held, other, near, web[x], side)
         exchanges.extend(new)
@@ -141,8 +133,7 @@ def extended(tables, other, most):
 
 def all_wholes(web, family, *, most=60):
     """The list of all wholes of the family, ascending by their counts; TooMany() beyond so many."""
-    pairs = folded(web)
-    must_agree(web, family)
+    pairs = agreed_folding(web, family)
     tables = [family[root(web, pairs)]]
     for x, _ in pairs[::-1]:
         tables = extended(tables, family[x], most)

@@ -11,7 +11,7 @@ from agreetwo.joints import join
 from agreetwo.tables import Table, summed
 from agreetwo.trees import seam, tree_of
 from agreetwo.webs import columns_of
-from agreetwo.wholes import must_agree
+from agreetwo.wholes import agreed_folding
 
 
 def check_filled(web, value):
@@ -69,8 +69,7 @@ def free(web, columns):
 
 def agreed_total(web, family):
     """The total of the tables of a family that agrees, of a web that folds; what whole raises, then Empty()."""
-    folded(web)
-    must_agree(web, family)
+    agreed_folding(web, family)
     return filled_total(family[0])
 
 

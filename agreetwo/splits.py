@@ -51,14 +51,19 @@ def must_split(web, split):
     return not any([shared(heading, side) != () and shared(heading, rest) != () for heading in web])
 
 
+def seams_and_sides(web, pairs):
+    """The list of the pairs, for each pair (x, y) of a folding, of the seam and of what x has gathered beyond it."""
+    gathering, found = list(web), []
+    for x, y in pairs:
+        found.append((seam(web, x, y), beyond(gathering[x], seam(web, x, y))))
+        gathering[y] = together(gathering[y], gathering[x])
+    return found
+
+
 def splits_of(web):
     """The list of the splits along the web's folding, each once."""
     columns, found = columns_of(web), []
-    pairs = folded(web)
-    gathering = list(web)
-    for x, y in pairs:
-        split = (seam(web, x, y), beyond(gathering[x], seam(web, x, y)))
+    for split in seams_and_sides(web, folded(web)):
         if is_split(columns, split) and split not in found:
             found.append(split)
-        gathering[y] = together(gathering[y], gathering[x])
     return found

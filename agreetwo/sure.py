@@ -1,18 +1,20 @@
 """What all wholes of a family have, what they may have, and how to show that there are several."""
 
-from agreetwo.bounds import agreed_tree, limits, whole_with
-from agreetwo.broken import core_rows
+from agreetwo.bounds import limits, whole_with
+from agreetwo.broken import core_rows, marked_row
+from agreetwo.cores import folded
 from agreetwo.families import is_table_over, sums
 from agreetwo.joints import join
 from agreetwo.products import seam_sums
 from agreetwo.tables import Table, first_unlike, summed
+from agreetwo.trees import tree_of
 from agreetwo.webs import columns_of
-from agreetwo.wholes import whole
+from agreetwo.wholes import agreed_folding, whole
 
 
 def limited(web, family, table):
-    """The list of the triples (row, least, greatest) of a table's rows, for a family that agrees."""
-    columns, seamed = columns_of(web), seam_sums(web, agreed_tree(web, family), family)
+    """The list of the triples (row, least, greatest) of a table's rows, the web folding and the family agreeing."""
+    columns, seamed = columns_of(web), seam_sums(web, tree_of(folded(web)), family)
     triples = []
     for row in table:
         low, high = limits(columns, family, seamed, row)
@@ -28,8 +30,8 @@ def surely(web, family):
 
 def open_rows(web, family):
     """The list of the triples (row, least, greatest) of all rows of the join for which these two are unlike."""
-    # The tree is asked for ahead of the join, because its errors come first.
-    agreed_tree(web, family)
+    # The errors of whole come first, and then that of the join.
+    agreed_folding(web, family)
     return [(row, low, high) for row, low, high in limited(web, family, join(family)) if low < high]
 
 
@@ -72,4 +74,4 @@ def spoiled(web):
     """(family, row): each table has the row's part, but no whole has the row; Folds(pairs) if the web folds."""
     columns = columns_of(web)
     table = Table(columns, [(row, 1) for row in core_rows(web, "unit")])
-    return sums(web, table), tuple([0 for _ in columns])
+    return sums(web, table), marked_row(columns, ())

@@ -12,6 +12,11 @@ FIGURES = "0123456789"
 MOST_FIGURES = 80
 
 
+def heading_text(heading):
+    """A heading's columns in brackets."""
+    return "[" + " ".join(heading) + "]"
+
+
 def row_text(row):
     """A row's values in parentheses."""
     return "(" + " ".join([str(worth) for worth in row]) + ")"
@@ -20,7 +25,7 @@ def row_text(row):
 def table_text(table):
     """The text of a table."""
     entries = [f" {row_text(row)} {count}" for row, count in table.counts()]
-    return "[" + " ".join(table.heading()) + "]" + "".join(entries)
+    return heading_text(table.heading()) + "".join(entries)
 
 
 def behind_sign(text, at, sign):

@@ -23,6 +23,13 @@ def must_agree(web, family):
         raise Disagree(x, y, row)
 
 
+def agreed_folding(web, family):
+    """The web's folding; Cored(core) if it does not fold, then Disagree(x, y, row) if the family does not agree."""
+    pairs = folded(web)
+    must_agree(web, family)
+    return pairs
+
+
 def whole_by(web, family, pairs):
     """The whole that is made from the root's table on along the pairs of a folding, the last pair first."""
     must_agree(web, family)
@@ -39,8 +46,7 @@ def whole(web, family):
 
 def bound(web, family):
     """How many rows the whole has at most: those of all tables, less those of the sums onto the folding's seams."""
-    pairs = folded(web)
-    must_agree(web, family)
+    pairs = agreed_folding(web, family)
     seamed = [summed(family[x], seam(web, x, y)) for x, y in pairs]
     return sum([len(table) for table in family]) - sum([len(table) for table in seamed])
 

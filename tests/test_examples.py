@@ -6,17 +6,22 @@ from pathlib import Path
 
 from agreetwo.bounds import bounds_over, greatest, least, whole_with
 from agreetwo.broken import broken, core_rows, lots_of
+from agreetwo.console import Console
 from agreetwo.cores import core, core_headings, judge_core
+from agreetwo.deeds import behind, deed_text, fitted, letters, read_deed, verdict, web_of
 from agreetwo.ears import ears, folding, judge_folding, root
-from agreetwo.errors import (BadExchange, BadFamily, BadNumber, BadRow, BadText, Cored, Disagree, Empty, Folds, NoRow,
-                             TooFew, TooMany, Unlike)
+from agreetwo.errors import (BadExchange, BadFamily, BadName, BadNumber, BadRow, BadText, Cored, Disagree, Empty,
+                             Folds, NoRow, NothingDone, TooFew, TooMany, Unlike)
 from agreetwo.exchanges import exchanged, judge_exchanges
 from agreetwo.families import check_family, disagreement, is_whole, sums
 from agreetwo.follows import blocks, follows
 from agreetwo.fractions import fraction, is_less, minus, multiplied, over, plus, share, shares
 from agreetwo.headings import beyond, is_heading, part, shared, together
+from agreetwo.house import House, came, tried, would_tell
 from agreetwo.joints import join, joint
 from agreetwo.leading import all_wholes, leading, two_wholes
+from agreetwo.mends import breaking, cores, critical, healing
+from agreetwo.orders import best_order, clean_order, filled, judge_order, least_width, made_headings, width
 from agreetwo.parted import added, joins_back, parted_web, unsplit
 from agreetwo.plans import data_of, judge_paper, judge_plan, unrolled
 from agreetwo.products import even_whole, free, product, product_rows, product_total
@@ -28,6 +33,7 @@ from agreetwo.sure import is_settled, judge_unlike, open_rows, spoiled, surely, 
 from agreetwo.tables import Table, agree, meet, summed, support
 from agreetwo.tabletexts import read_table, table_text
 from agreetwo.trees import is_folding_tree, judge_tree, parts, seam, seams, tree_of
+from agreetwo.webchanges import glued, renamed, with_heading, without_column, without_heading
 from agreetwo.webs import columns_of, cut, is_web, largest
 from agreetwo.wholes import bound, lost, whole, whole_by, whole_set
 from tests.support import raised
@@ -310,6 +316,74 @@ class StageEight(unittest.TestCase):
             [table.rows() for table in two_wholes((("a", "b"), ("b", "c"), ("a", "c")))],
             [[(0, 0, 0), (0, 1, 1), (1, 0, 1), (1, 1, 0)], [(0, 0, 1), (0, 1, 0), (1, 0, 0), (1, 1, 1)]])
         self.assertEqual(raised(Unlike, leading, PATH, one, Table(ABC, [((0, 5, 1), 2)])).number, 0)
+
+
+class StageNine(unittest.TestCase):
+    def test_webchanges(self):
+        self.assertEqual(
+            [with_heading(PAIR, ("a",)), without_heading(RING, 3) == CHAIN, without_column(SHELL, "b")],
+            [(("a", "b"), ("b", "c"), ("a",)), True, (("a",), ("a", "c"), ("c",))])
+        self.assertEqual([renamed(PAIR, {"a": "c", "c": "a"}), glued(PAIR, (("c", "d"), ("b", "c")), 1, 1)],
+                         [(("b", "c"), ("a", "b")), (("a", "b"), ("b", "c"), ("c", "d"))])
+        self.assertEqual(raised(BadName, renamed, PAIR, {"a": "c"}).name, "c")
+
+    def test_mends(self):
+        both = (("a", "b"), ("b", "c"), ("a", "c"), ("c", "d"), ("d", "e"), ("c", "e"))
+        self.assertEqual(
+            [cores(both), critical(both), breaking(both), breaking(RING)],
+            [[("shell", ("a", "b", "c")), ("shell", ("c", "d", "e"))], ("c",), [], [0, 1, 2, 3]])
+        self.assertEqual([healing(RING), healing(SHELL), healing(CHAIN), healing(both)],
+                         [("a", "b", "c", "d"), ("a", "b", "c"), (), ("a", "b", "c", "d", "e")])
+
+    def test_orders(self):
+        order = ("a", "b", "c", "d")
+        self.assertEqual(made_headings(RING, order), [("a", "b", "d"), ("b", "c", "d"), ("c", "d"), ("d",)])
+        self.assertEqual([width(RING, order), filled(RING, order), judge_order(RING, order)],
+                         [3, (("a", "b", "d"), ("b", "c", "d")), ("grows", 0)])
+        self.assertEqual(
+            [clean_order(CHAIN), clean_order(SHELL), least_width(SHELL), best_order(RING),
+             judge_order(CHAIN, ("b", "a"))],
+            [("a", "b", "c", "d"), None, 3, ("a", "b", "c", "d"), ("form",)])
+
+
+class StageTen(unittest.TestCase):
+    def test_deeds(self):
+        state = behind(behind({}, ("holder", "left", ("a", "b"))), ("holder", "right", ("b", "c")))
+        state = behind(behind(state, ("put", "left", (0, 1), 2)), ("put", "right", (1, 5), 3))
+        self.assertEqual(
+            [web_of(state), verdict({}), verdict(state), letters(state)],
+            [(("a", "b"), ("b", "c")), ("empty",), ("apart", "left", "right", (1,)), [("fit", "right", "left")]])
+        some = Table(("b", "c"), [((1, 5), 3), ((1, 7), 2), ((2, 0), 4)])
+        self.assertEqual(fitted(Table(("a", "b"), [((0, 1), 4), ((0, 3), 1)]), some).counts(),
+                         [((1, 5), 3), ((1, 7), 1), ((3, 0), 1)])
+        self.assertEqual(verdict(behind(state, ("fit", "right", "left")))[1].counts(), [((0, 1, 5), 3)])
+        self.assertEqual(behind(state, ("rename", "b", "z"))["right"].counts(), [((5, 1), 3)])
+        self.assertEqual(
+            [deed_text(("put", "left", (0, 1), 2)), deed_text(("holder", "far", ())), read_deed("fit right left")],
+            ["put left (0 1) 2", "holder far []", ("fit", "right", "left")])
+        self.assertEqual(raised(TooFew, behind, state, ("take", "left", (0, 1), 3)).row, (0, 1))
+
+    def test_house(self):
+        house = House()
+        numbers = tried(house, [("holder", "left", ("a", "b")), ("put", "left", (0, 1), 3)])
+        self.assertEqual(
+            [numbers, house.branch("side"), house.do(("put", "left", (7, 1), 1)), house.go("side"),
+             house.do(("take", "left", (0, 1), 1))],
+            [[1, 2], None, 3, 2, 4])
+        self.assertEqual(
+            [house.merge("main"), house.state()["left"].counts(), house.trail("side"), house.log()[4]],
+            [5, [((0, 1), 2), ((7, 1), 1)], [0, 1, 2, 4, 5], ((4, 3), None)])
+        self.assertEqual([one.counts() for one in came(house, 2, 5)["left"]], [[((0, 1), 1)], [((7, 1), 1)]])
+        self.assertEqual([would_tell(house, [("leave", "left")]), house.undo(), len(house)], [("empty",), 4, 6])
+        raised(NothingDone, House().undo)
+
+    def test_console(self):
+        desk = Console()
+        lines = ["holder left [a b]", "put left (0 1) 3", "holder right [b c]", "tell", "letters", "fit left right"]
+        self.assertEqual([desk.say(line) for line in lines], ["1", "2", "3", "apart", "fit right left", "4"])
+        lines = ["tell", "show right", "show", "at 1", "leave far", "put left", "undo"]
+        self.assertEqual([desk.say(line) for line in lines],
+                         ["whole", "[b c] (1 0) 3", "left right", "left", "no UnknownName", "no BadText", "3"])
 
 
 class Readme(unittest.TestCase):

@@ -39,9 +39,18 @@ DEFINED = {
     "sure": "surely open_rows two_unlike judge_unlike is_settled spoiled",
     "exchanges": "exchanged judge_exchanges",
     "leading": "leading all_wholes two_wholes",
+    "webchanges": "with_heading without_heading without_column renamed glued",
+    "mends": "cores critical breaking healing",
+    "orders": "made_headings width filled judge_order clean_order least_width best_order",
+    "deeds": "web_of family_of behind fitted letters verdict deed_text read_deed",
+    "house": "House came would_tell tried",
+    "console": "Console",
 }
 METHODS = {"tables": {"Table": "__init__ heading rows counts times total __len__ __contains__ __iter__ __eq__ __add__ "
-                               "__sub__ __mul__ __rmul__"}}
+                               "__sub__ __mul__ __rmul__"},
+           "house": {"House": "__init__ do undo redo branch go present state state_at __len__ here branches trail place "
+                              "log merge twin __eq__"},
+           "console": {"Console": "__init__ house say"}}
 
 BUILTINS = set("len range enumerate zip min max sum abs sorted reversed int str bool list tuple dict set isinstance ord "
                "repr any all divmod iter next type ValueError LookupError KeyError NotImplemented".split())
