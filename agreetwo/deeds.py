@@ -6,7 +6,7 @@ A state is a dict from the holders' names, ascending, to their tables.
 from agreetwo.broken import marked_row
 from agreetwo.cores import core, folded
 from agreetwo.ears import folding
-from agreetwo.errors import BadDeed, BadHeading, BadName, BadNumber, BadText, NoRow, UnknownColumn, UnknownName
+from agreetwo.errors import BadDeed, BadName, BadNumber, BadText, NoRow, UnknownColumn, UnknownName
 from agreetwo.families import disagreement
 from agreetwo.headings import MOST_COLUMNS, beyond, is_heading, is_row, is_word, put_together, shared
 from agreetwo.joints import by_part
@@ -61,22 +61,19 @@ def fitted(one, other):
     """The table other as it is led to agree with one."""
     mine, theirs = one.heading(), other.heading()
     seam, others = shared(theirs, mine), beyond(theirs, mine)
-    target, entries = summed(one, theirs), by_part(other, mine)
-    noughts = marked_row(others, ())
+    entries, noughts = by_part(other, mine), marked_row(others, ())
     counts = []
-    for small in sorted(set(target.rows() + list(entries))):
-        row = put_together(seam, small, others, noughts)
-        counts.extend(counts_led(entries.get(small, []), target.times(small), row))
+    # What has a part that one has not, leaves altogether: so the parts that one has are enough.
+    for small, n in summed(one, theirs).counts():
+        counts.extend(counts_led(entries.get(small, []), n, put_together(seam, small, others, noughts)))
     return Table(theirs, counts)
 
 
 def with_holder(state, deed):
-    """The state in which a new holder has come."""
+    """The state in which a new holder has come; BadName(name), then the table's BadHeading(heading), then TooMany()."""
     _, name, heading = deed
     if not is_word(name) or name in state:
         raise BadName(name)
-    if not is_heading(heading):
-        raise BadHeading(heading)
     made = put_in_order({**state, name: Table(heading, [])})
     must_have_room(web_of(made))
     return made

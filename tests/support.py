@@ -4,6 +4,7 @@ import random
 
 from agreetwo.ears import folding
 from agreetwo.families import sums
+from agreetwo.house import House
 from agreetwo.tables import Table
 from agreetwo.webs import columns_of
 
@@ -29,7 +30,7 @@ def any_values():
     plain = [0, 1, -1, 2, 99, 100, 10 ** 40 - 1, -10 ** 39, True, False, None, "", "a", "ab", "A", "a b\t\n~", " "]
     groups = [(), [], {}, (0,), [0], ("a",), ["a"], {"a": 1}, {1: 2}, {(0, 1): [1]}, (True,), (None,), ((),), [[]],
               ((0, 1),), [(0, 1)], ([0, 1],), ((0, 1), (1, 2)), [[0, 1], [1, 2]], ((True, False),), (0, (1, [2, {}]))]
-    own = [Table((), []), Table(("a",), [((1,), 2)]), (Table((), []),), [Table(AB, [])]]
+    own = [Table((), []), Table(("a",), [((1,), 2)]), (Table((), []),), [Table(AB, [])], House(), (House(), {"a": House()})]
     return plain + groups + own + [nested(kind, 29) for kind in (list, tuple, dict)]
 
 

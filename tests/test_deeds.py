@@ -324,6 +324,8 @@ class Verdict(unittest.TestCase):
     def test_names_in_order_whatever_the_dict(self):
         turned = {"right": RIGHT, "left": LEFT}
         self.assertEqual((web_of(turned), family_of(turned)), ((AB, BC), [LEFT, RIGHT]))
+        self.assertEqual((letters(turned), verdict(turned)), (letters(STATE), verdict(STATE)))
+        self.assertEqual(list(behind(turned, ("fit", "left", "left"))), ["left", "right"])
 
 
 TEXTS = {

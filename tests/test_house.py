@@ -254,6 +254,31 @@ class Twins(unittest.TestCase):
             other.branch(name)
         self.assertNotEqual(one, other)
 
+    def test_trails_alone(self):
+        houses = []
+        for first, second in (("main", "side"), ("side", "main")):
+            house = house_of(*HOLDERS)
+            house.branch("side")
+            house.go(first)
+            house.do(PUT)
+            house.go(second)
+            house.do(PUT)
+            house.go("main")
+            houses.append(house)
+        one, other = houses
+        self.assertEqual((one.log(), one.place("main"), one.place("side")),
+                         (other.log(), other.place("main"), other.place("side")))
+        self.assertNotEqual(one.trail("main"), other.trail("main"))
+        self.assertNotEqual(one, other)
+        # What stands behind the place counts, too.
+        for house in houses:
+            house.undo()
+            house.go("side")
+            house.undo()
+            house.go("main")
+        self.assertEqual((one.present(), one.state()), (other.present(), other.state()))
+        self.assertNotEqual(one, other)
+
     def test_logs_and_trails(self):
         one, other = house_of(*HOLDERS), house_of(*HOLDERS)
         one.undo()

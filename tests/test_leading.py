@@ -152,6 +152,17 @@ class AllWholes(unittest.TestCase):
         self.assertEqual([table.counts()[0] for table in all_wholes(web, family)],
                          [((0, 0), 1), ((0, 0), 2), ((0, 1), 2)])
 
+    def test_several_classes_along_one_seam(self):
+        four = [(0, 0), (0, 1), (1, 0), (1, 1)]
+        family = [ones(AB, *four), ones(BC, *four)]
+        self.assertEqual(len(all_wholes(PATH, family)), 4)
+        self.assertEqual([table.counts() for table in all_wholes(PATH, family, most=4)], all_tables_of(PATH, family))
+        for most in (1, 2, 3):
+            raised(TooMany, lambda: all_wholes(PATH, family, most=most))
+        family = [ones(AB, *[(a, b) for a in (0, 1) for b in range(6)]),
+                  ones(BC, *[(b, c) for b in range(6) for c in (0, 1)])]
+        raised(TooMany, all_wholes, PATH, family)
+
     def test_edges(self):
         self.assertEqual(all_wholes((AB,), [PAIR[0]]), [PAIR[0]])
         self.assertEqual(all_wholes((AB,), [PAIR[0]], most=1), [PAIR[0]])

@@ -129,6 +129,8 @@ class Renamed(unittest.TestCase):
         # c is called as a before, which keeps its name: but a is told none, so it is c's new name.
         self.assertEqual(raised(BadName, renamed, PAIR, {"c": "a"}).name, "a")
         self.assertEqual(raised(BadName, renamed, PAIR, {"c": 1, "b": 2, "a": 3}).name, 3)
+        # The name a, which is told of c, is that of a, too; but a is none of those that get a new one, and b is.
+        self.assertEqual(raised(BadName, renamed, PAIR, {"b": 5, "c": "a"}).name, 5)
 
     def test_drawn(self):
         rng = drawn(902)
