@@ -58,6 +58,11 @@ def core_rows(web, word):
     return sorted([marked_row(columns, chosen) for chosen in choices_of(lots_of(web)) if is_called(chosen, word)])
 
 
+def core_table(web, word):
+    """The table over all columns that has these core rows once each; Folds(pairs) if the web folds."""
+    return Table(columns_of(web), [(row, 1) for row in core_rows(web, word)])
+
+
 def table_over_core(heading, lots):
     """The table over a core heading in which just one of the heading's lots has 1 in each row.
 

@@ -112,9 +112,9 @@ def with_less(state, deed):
 
 def recalled(table, called):
     """The table whose columns are called as the dict tells, the values going with them."""
-    heading = table.heading()
-    made = renamed_heading(heading, called)
-    places = [[called[column] for column in heading].index(column) for column in made]
+    names = [called[column] for column in table.heading()]
+    made = renamed_heading(table.heading(), called)
+    places = [names.index(name) for name in made]
     return Table(made, [(tuple([row[place] for place in places]), count) for row, count in table.counts()])
 
 

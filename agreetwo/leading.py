@@ -1,6 +1,6 @@
 """Wholes led to one another by exchanges, and all wholes of a family."""
 
-from agreetwo.broken import core_rows
+from agreetwo.broken import core_table
 from agreetwo.cores import folded
 from agreetwo.ears import root
 from agreetwo.errors import TooMany, Unlike
@@ -142,6 +142,4 @@ def all_wholes(web, family, *, most=60):
 
 def two_wholes(web):
     """Two wholes of one family between which no exchange leads; Folds(pairs) if the web folds."""
-    columns = columns_of(web)
-    even = Table(columns, [(row, 1) for row in core_rows(web, "even")])
-    return even, Table(columns, [(row, 1) for row in core_rows(web, "odd")])
+    return core_table(web, "even"), core_table(web, "odd")

@@ -1,13 +1,12 @@
 """Webs that splits make of a heading, and the tables that come back from their sums onto a web."""
 
-from agreetwo.broken import core_rows
+from agreetwo.broken import core_table
 from agreetwo.errors import TooMany
 from agreetwo.families import sums
 from agreetwo.headings import lies_within, shared, together
 from agreetwo.joints import join
 from agreetwo.splits import rest_of
-from agreetwo.tables import Table
-from agreetwo.webs import MOST_HEADINGS, columns_of
+from agreetwo.webs import MOST_HEADINGS
 
 
 def pieces_of(one, split, rest):
@@ -44,4 +43,4 @@ def joins_back(web, table):
 
 def unsplit(web):
     """The table that has each split that the web must have, and does not join back; Folds(pairs) if the web folds."""
-    return Table(columns_of(web), [(row, 1) for row in core_rows(web, "even")])
+    return core_table(web, "even")

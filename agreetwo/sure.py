@@ -1,12 +1,12 @@
 """What all wholes of a family have, what they may have, and how to show that there are several."""
 
 from agreetwo.bounds import limits, whole_with
-from agreetwo.broken import core_rows, marked_row
+from agreetwo.broken import core_table, marked_row
 from agreetwo.cores import folded
 from agreetwo.families import is_table_over, sums
 from agreetwo.joints import join
 from agreetwo.products import seam_sums
-from agreetwo.tables import Table, first_unlike, summed
+from agreetwo.tables import first_unlike, summed
 from agreetwo.trees import tree_of
 from agreetwo.webs import columns_of
 from agreetwo.wholes import agreed_folding, whole
@@ -72,6 +72,4 @@ def judge_unlike(web, family, value):
 
 def spoiled(web):
     """(family, row): each table has the row's part, but no whole has the row; Folds(pairs) if the web folds."""
-    columns = columns_of(web)
-    table = Table(columns, [(row, 1) for row in core_rows(web, "unit")])
-    return sums(web, table), marked_row(columns, ())
+    return sums(web, core_table(web, "unit")), marked_row(columns_of(web), ())

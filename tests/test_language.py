@@ -323,6 +323,17 @@ class Syntax(unittest.TestCase):
                     names.extend([alias.name for alias in node.names])
             self.assertEqual(len(names), len(set(names)), path)
 
+    def test_no_comprehension_takes_a_name_of_one_around_it(self):
+        kinds = (ast.ListComp, ast.SetComp, ast.DictComp)
+
+        def targets(node):
+            return {part.id for one in node.generators for part in ast.walk(one.target) if isinstance(part, ast.Name)}
+        for where, node, _ in self.each_node():
+            if isinstance(node, kinds):
+                for part in ast.walk(node):
+                    if isinstance(part, kinds) and part is not node:
+                        self.assertFalse((targets(part) & targets(node)) - {"_"}, where)
+
     def test_what_is_imported_is_used(self):
         for path, tree in trees():
             used = {node.id for node in ast.walk(tree) if isinstance(node, ast.Name)}
